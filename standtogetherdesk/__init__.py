@@ -1,0 +1,1 @@
+"""What can stand together: independent sets of many kinds."""
