@@ -1,10 +1,14 @@
 """The calls: each is read from the list of calls and answered."""
 
-from standtogetherdesk.kinds import PARTS, Dual, Graph, Minor, Parts, Seats, Table
+from standtogetherdesk.bits import all_things, has, only, size
+from standtogetherdesk.kinds import PARTS, Dual, Graph, Minor, Parts, Seats, Table, Union
+from standtogetherdesk.meeting import greatest_common
+from standtogetherdesk.questions import best, circuit, closure
 from standtogetherdesk.reading import Reader
 
 WRONG = -1
 FULL = -3
+UNFIT = -4
 
 MOST_KINDS = 32
 MOST_THINGS = 64
@@ -54,6 +58,27 @@ def all_below(numbers, end):
 
 def is_set_of(chosen, n):
     return (chosen >> n) == 0
+
+
+def pair_refusal(desk, a, b):
+    """Why two kinds can't be put side by side; 0 if they can."""
+    if not desk.has_kind(a) or not desk.has_kind(b):
+        return WRONG
+    one = desk.kinds[a]
+    other = desk.kinds[b]
+    if one.things != other.things:
+        return WRONG
+    if one.from_union or other.from_union:
+        return UNFIT
+    return 0
+
+
+def is_set_of_kind(desk, m, chosen):
+    return desk.has_kind(m) and is_set_of(chosen, desk.kinds[m].things)
+
+
+def how_many_and_set(found):
+    return [size(found), found]
 
 
 def answer_begin(desk, reader):
@@ -112,6 +137,74 @@ def answer_minor(desk, reader):
     return [desk.keep(Minor(kind, without, within))]
 
 
+def answer_union(desk, reader):
+    a = reader.number()
+    b = reader.number()
+    refusal = pair_refusal(desk, a, b)
+    if refusal != 0:
+        return [refusal]
+    return [desk.keep(Union(desk.kinds[a], desk.kinds[b]))]
+
+
+def answer_rank(desk, reader):
+    m = reader.number()
+    chosen = reader.number()
+    if not is_set_of_kind(desk, m, chosen):
+        return [WRONG]
+    return [desk.kinds[m].rank(chosen)]
+
+
+def answer_closure(desk, reader):
+    m = reader.number()
+    chosen = reader.number()
+    if not is_set_of_kind(desk, m, chosen):
+        return [WRONG]
+    return how_many_and_set(closure(desk.kinds[m], chosen))
+
+
+def answer_circuit(desk, reader):
+    m = reader.number()
+    chosen = reader.number()
+    e = reader.number()
+    if not is_set_of_kind(desk, m, chosen):
+        return [WRONG]
+    kind = desk.kinds[m]
+    if e < 0 or e >= kind.things:
+        return [WRONG]
+    if has(chosen, e) or not kind.is_free(chosen) or kind.is_free(chosen | only(e)):
+        return [UNFIT]
+    return how_many_and_set(circuit(kind, chosen, e))
+
+
+def answer_best(desk, reader):
+    m = reader.number()
+    weight = reader.row()
+    if not desk.has_kind(m) or len(weight) != desk.kinds[m].things:
+        return [WRONG]
+    return how_many_and_set(best(desk.kinds[m], weight))
+
+
+def answer_split(desk, reader):
+    m = reader.number()
+    chosen = reader.number()
+    if not is_set_of_kind(desk, m, chosen):
+        return [WRONG]
+    kind = desk.kinds[m]
+    if not isinstance(kind, Union) or not kind.is_free(chosen):
+        return [UNFIT]
+    return [0]
+
+
+def answer_common(desk, reader):
+    a = reader.number()
+    b = reader.number()
+    refusal = pair_refusal(desk, a, b)
+    if refusal != 0:
+        return [refusal]
+    one = desk.kinds[a]
+    return [size(greatest_common(one, desk.kinds[b], all_things(one.things)))]
+
+
 CALLS = {
     0: answer_begin,
     1: answer_graph,
@@ -120,6 +213,13 @@ CALLS = {
     4: answer_seats,
     5: answer_dual,
     6: answer_minor,
+    7: answer_union,
+    8: answer_rank,
+    9: answer_closure,
+    10: answer_circuit,
+    11: answer_best,
+    12: answer_split,
+    13: answer_common,
 }
 
 

@@ -1,20 +1,35 @@
 """The kinds: each has things 0, 1, .. and tells the rank of a set of them.
 
-A set is a number whose bit e is 1 if thing e is in it. It is free just when
-its rank is how many things it has, so the rank says all about a kind.
+A set is free just when its rank is how many things it has, so the rank says
+all about a kind.
 """
+
+from standtogetherdesk.bits import all_things, members, size
+from standtogetherdesk.meeting import greatest_common
 
 COLUMNS = 16
 PARTS = 16
 
 
-def members(chosen):
-    """The numbers of the bits of a set that are 1, the lowest first."""
-    return [e for e in range(chosen.bit_length()) if (chosen >> e) & 1 == 1]
+class Kind:
+    """What all kinds share; each sort of kind says itself, by find_rank, how
+    the rank of a set is found."""
 
+    def __init__(self, things, from_union):
+        self.things = things
+        # Whether it is a union or made from one, in however many steps.
+        self.from_union = from_union
+        self.ranks = {}
 
-def all_things(n):
-    return (1 << n) - 1
+    def rank(self, chosen):
+        # Kept, as kinds made from kinds ask those below them for the same
+        # sets again and again, and the work would grow with each step.
+        if chosen not in self.ranks:
+            self.ranks[chosen] = self.find_rank(chosen)
+        return self.ranks[chosen]
+
+    def is_free(self, chosen):
+        return self.rank(chosen) == size(chosen)
 
 
 def last_point(leads, point):
@@ -23,14 +38,14 @@ def last_point(leads, point):
     return point
 
 
-class Graph:
+class Graph(Kind):
     """Thing e is an edge between ends[2 e] and ends[2 e + 1]."""
 
     def __init__(self, n, ends):
-        self.things = n
+        Kind.__init__(self, n, False)
         self.ends = ends
 
-    def rank(self, chosen):
+    def find_rank(self, chosen):
         # Points that are joined lead to the same last point; an edge within
         # what is joined already would close a way.
         leads = {}
@@ -61,15 +76,15 @@ def without_column(row, base, column, p):
     return [(theirs * x - mine * y) % p for x, y in zip(row, base)]
 
 
-class Table:
+class Table(Kind):
     """Thing e is a row of numbers modulo the prime p."""
 
     def __init__(self, n, p, cells):
-        self.things = n
+        Kind.__init__(self, n, False)
         self.p = p
         self.rows = [cells[COLUMNS * e:COLUMNS * (e + 1)] for e in range(n)]
 
-    def rank(self, chosen):
+    def find_rank(self, chosen):
         # Each base is 0 in the columns of those kept before it, so going
         # through them in the order they came leaves a row 0 in all of these.
         bases = {}
@@ -83,15 +98,15 @@ class Table:
         return len(bases)
 
 
-class Parts:
+class Parts(Kind):
     """Thing e is of part[e]; of part i, most[i] things can stand together."""
 
     def __init__(self, part, most):
-        self.things = len(part)
+        Kind.__init__(self, len(part), False)
         self.part = part
         self.most = most
 
-    def rank(self, chosen):
+    def find_rank(self, chosen):
         counts = [0] * PARTS
         for e in members(chosen):
             counts[self.part[e]] += 1
@@ -110,48 +125,61 @@ def can_sit(seats, sitters, tried, thing):
     return False
 
 
-class Seats:
+class Seats(Kind):
     """Thing e may sit on the seats whose bits are 1 in seats[e]."""
 
     def __init__(self, seats):
-        self.things = len(seats)
+        Kind.__init__(self, len(seats), False)
         self.seats = seats
 
-    def rank(self, chosen):
+    def find_rank(self, chosen):
         sitters = {}
         for e in members(chosen):
             can_sit(self.seats, sitters, {}, e)
         return len(sitters)
 
 
-class Dual:
+class Dual(Kind):
     """Free is what some greatest free set of another kind has nothing of."""
 
     def __init__(self, kind):
-        self.things = kind.things
+        Kind.__init__(self, kind.things, kind.from_union)
         self.kind = kind
-        self.whole = all_things(kind.things)
-        # Kept, as asking for it each time would double the work with each
-        # dual that a kind is made through.
-        self.whole_rank = kind.rank(self.whole)
 
-    def rank(self, chosen):
-        others = self.whole & ~chosen
-        return len(members(chosen)) + self.kind.rank(others) - self.whole_rank
+    def find_rank(self, chosen):
+        whole = all_things(self.things)
+        return size(chosen) + self.kind.rank(whole & ~chosen) - self.kind.rank(whole)
 
 
-class Minor:
+class Minor(Kind):
     """Free is what has nothing of without and within, and is free in another
     kind with a greatest free subset of within."""
 
     def __init__(self, kind, without, within):
-        self.things = kind.things
+        Kind.__init__(self, kind.things, kind.from_union)
         self.kind = kind
         self.taken = without | within
         self.within = within
-        # Kept for the reason that Dual keeps its whole's.
-        self.within_rank = kind.rank(within)
 
-    def rank(self, chosen):
+    def find_rank(self, chosen):
         left = chosen & ~self.taken
-        return self.kind.rank(left | self.within) - self.within_rank
+        return self.kind.rank(left | self.within) - self.kind.rank(self.within)
+
+
+class Union(Kind):
+    """Free is what has two parts, the first free in one kind, the second in
+    another."""
+
+    def __init__(self, first, second):
+        Kind.__init__(self, first.things, True)
+        self.first = first
+        self.second = second
+
+    def find_rank(self, chosen):
+        # The second part may be a greatest one that is free in the second
+        # kind; the first is then as great as any that is free in the first
+        # kind and leaves room for such a second part, which the dual tells.
+        outside = all_things(self.things) & ~chosen
+        leaving_room = Dual(Minor(self.second, outside, 0))
+        first_part = greatest_common(self.first, leaving_room, chosen)
+        return size(first_part) + self.second.rank(chosen)

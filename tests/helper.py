@@ -4,8 +4,12 @@ from standtogetherdesk.desk import answers
 
 WRONG = -1
 FULL = -3
+UNFIT = -4
 MOST_KINDS = 32
 GREATEST_PRIME = 65521
+LOWEST = -2147483648
+HIGHEST = 2147483647
+LAST_SET = 18446744073709551615
 
 BEGIN = [0]
 
@@ -44,13 +48,70 @@ def minor(m, without=0, within=0):
     return [6, m, without, within]
 
 
+def union(a, b):
+    return [7, a, b]
+
+
+def rank(m, chosen):
+    return [8, m, chosen]
+
+
+def closure(m, chosen):
+    return [9, m, chosen]
+
+
+def circuit(m, chosen, e):
+    return [10, m, chosen, e]
+
+
+def best(m, weight):
+    return [11, m] + row(weight)
+
+
+def split(m, chosen):
+    return [12, m, chosen]
+
+
+def common(a, b):
+    return [13, a, b]
+
+
+def most_of(**given):
+    """The 16 numbers of most: p3=2 says 2 of part 3; 0 of those that aren't told."""
+    return [given.get(f"p{i}", 0) for i in range(16)]
+
+
+def rows(*heads):
+    """A table's cells: each row is told by its first numbers, the others are 0."""
+    return [cell for head in heads for cell in list(head) + [0] * (16 - len(head))]
+
+
 def joined(calls):
     return [number for call in calls for number in call]
 
 
+def asked(*calls):
+    """The numbers that each call answers, a list for each call."""
+    given = answers(joined(calls))
+    found = []
+    place = 0
+    while place < len(given):
+        end = place + 1 + given[place]
+        found.append(given[place + 1:end])
+        place = end
+    if place != len(given) or len(found) != len(calls) or [] in found:
+        raise AssertionError(f"not an answer for each call: {given}")
+    return found
+
+
 def answered(*calls):
     """The one number that each call answers; its count must be 1."""
-    given = answers(joined(calls))
-    if given[0::2] != [1] * len(calls) or len(given) != 2 * len(calls):
-        raise AssertionError(f"not one number for each call: {given}")
-    return given[1::2]
+    found = asked(*calls)
+    if any(len(numbers) != 1 for numbers in found):
+        raise AssertionError(f"not one number for each call: {found}")
+    return [numbers[0] for numbers in found]
+
+
+def last(*calls):
+    """The numbers that the last call answers."""
+    return asked(*calls)[-1]

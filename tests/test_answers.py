@@ -7,14 +7,23 @@ import unittest
 
 from standtogetherdesk.desk import answers
 from tests.helper import (
-    BEGIN, FULL, MOST_KINDS, WRONG, answered, dual, graph, joined, minor, parts, seats, table,
+    BEGIN, FULL, MOST_KINDS, WRONG,
+    answered, best, circuit, closure, common, dual, graph, joined, minor, parts, rank, seats, split, table, union,
 )
 
-SOME = joined([
-    graph(2, [0, 1, 1, 0]), table(1, 5, list(range(4)) * 4), parts([0, 15, 1]), seats([3, 5]),
-    dual(0), minor(3, 1, 2), graph(-1), dual(9), BEGIN, minor(0, 0, 0), seats([]),
-])
-SOME_ANSWERS = [1, 0, 1, 1, 1, 2, 1, 3, 1, 4, 1, 5, 1, -1, 1, -1, 1, 0, 1, -1, 1, 0]
+# Every call, with its numbers answered.
+SOME_CALLS = [
+    (graph(2, [0, 1, 1, 0]), [0]), (table(1, 5, list(range(4)) * 4), [1]), (parts([0, 15, 1]), [2]),
+    (seats([3, 5]), [3]), (dual(0), [4]), (minor(3, 1, 2), [5]), (graph(-1), [-1]), (dual(9), [-1]),
+    (union(0, 3), [6]), (union(6, 0), [-4]), (union(0, 1), [-1]), (rank(6, 3), [2]), (rank(0, 4), [-1]),
+    (closure(0, 1), [2, 3]), (closure(2, 0), [0, 0]), (closure(7, 0), [-1]), (circuit(0, 1, 1), [2, 3]),
+    (circuit(0, 0, 1), [-4]), (circuit(0, 1, 2), [-1]), (best(2, [3, 1, 2]), [3, 7]), (best(0, [1]), [-1]),
+    (best(4, [1, 2]), [1, 2]), (split(6, 3), [0]), (split(0, 3), [-4]), (split(6, 4), [-1]), (common(0, 3), [1]),
+    (common(0, 6), [-4]), (common(0, 2), [-1]), (BEGIN, [0]), (minor(0, 0, 0), [-1]), (seats([]), [0]),
+    (closure(0, 0), [0, 0]), (best(0, []), [0, 0]),
+]
+SOME = joined([call for call, numbers in SOME_CALLS])
+SOME_ANSWERS = joined([[len(numbers)] + numbers for call, numbers in SOME_CALLS])
 
 
 class Unchangeable(list):
@@ -35,12 +44,26 @@ class Form(unittest.TestCase):
         self.assertEqual(answers([4, 0, 4, 1, 6, 0]), [1, 0, 1, 1, 1, 0])
         self.assertEqual(answers(SOME), SOME_ANSWERS)
 
+    def test_two_numbers_of_closure_circuit_and_best_else_one(self):
+        self.assertEqual(answers([1, 1, 2, 0, 1, 9, 0, 1]), [1, 0, 2, 1, 1])
+        self.assertEqual(answers([1, 1, 2, 0, 0, 10, 0, 0, 0]), [1, 0, 2, 1, 1])
+        self.assertEqual(answers([1, 1, 2, 0, 1, 11, 0, 1, -5]), [1, 0, 2, 1, 1])
+        self.assertEqual(answers([1, 1, 2, 0, 1, 7, 0, 0, 8, 1, 1, 12, 1, 1, 13, 0, 0]), [1, 0, 1, 1, 1, 1, 1, 0, 1, 1])
+        self.assertEqual(answers([9, 0, 0, 10, 0, 0, 0, 11, 0, 0]), [1, -1] * 3)
+        self.assertEqual(answers([7, 0, 0, 8, 0, 0, 12, 0, 0, 13, 0, 0]), [1, -1] * 4)
+
+    def test_a_count_of_0_stands_with_its_set(self):
+        self.assertEqual(answers([4, 0, 9, 0, 0, 11, 0, 0]), [1, 0, 2, 0, 0, 2, 0, 0])
+
     def test_numbers_within_a_call_are_no_calls(self):
         self.assertEqual(answers([1, -1, 0, 0]), [1, -1, 1, 0])
         self.assertEqual(answers([2, -5, 4, 0, 5, 0]), [1, -1, 1, -1])
         self.assertEqual(answers([3, 2, 0, 16, 16] + [0] * 16 + [4, 2, 0, 0]), [1, -1, 1, 0])
         self.assertEqual(answers([6, 0, 0, 0, 4, 1, 5, 6, 0, 1, 0]), [1, -1, 1, 0, 1, 1])
         self.assertEqual(answers([2, 1, 3, 16] + [3] * 16 + [5, 5, 0]), [1, -1, 1, -1, 1, 0])
+        self.assertEqual(answers([11, 0, 3, 0, 0, 0, 0]), [1, -1, 1, 0])
+        self.assertEqual(answers([4, 1, 1, 11, 0, 2, 4, 0, 8, 0, 1]), [1, 0, 1, -1, 1, 1])
+        self.assertEqual(answers([7, 0, 0, 10, 0, 0, 0, 8, 0, 0, 13, 0, 0, 0]), [1, -1] * 4 + [1, 0])
 
     def test_a_list_of_ints(self):
         given = answers(SOME)
@@ -65,6 +88,17 @@ class Untouched(unittest.TestCase):
         self.assertEqual(answers(SOME), first)
         self.assertEqual(first, SOME_ANSWERS)
         self.assertEqual(answers(other), between)
+
+    def test_ranks_are_not_those_of_an_earlier_list(self):
+        asking = [union(0, 0), rank(0, 3), rank(1, 3), common(0, 0), best(0, [1, 2]), closure(1, 0)]
+        for k in range(2):
+            self.assertEqual(answers(joined([seats([1, 1])] + asking)), [1, 0, 1, 1, 1, 1, 1, 2, 1, 1, 2, 1, 2, 2, 0, 0])
+            self.assertEqual(answers(joined([seats([0, 0])] + asking)), [1, 0, 1, 1, 1, 0, 1, 0, 1, 0, 2, 0, 0, 2, 2, 3])
+
+    def test_nor_those_from_before_begin(self):
+        asking = [union(0, 0), rank(0, 3), rank(1, 3)]
+        given = answered(seats([1, 1]), *asking, BEGIN, seats([0, 0]), *asking, BEGIN, seats([1, 1]), *asking)
+        self.assertEqual(given, [0, 1, 1, 2, 0, 0, 1, 0, 0, 0, 0, 1, 1, 2])
 
     def test_no_kinds_from_an_earlier_list(self):
         answers(joined([graph(1)] * 32))

@@ -1,14 +1,11 @@
-"""begin, graph, table, parts, seats, dual and minor: numbers and refusals."""
+"""The calls that make kinds, and begin: numbers and refusals; of union, more is in test_union."""
 
 import unittest
 
 from tests.helper import (
-    BEGIN, FULL, GREATEST_PRIME, MOST_KINDS, WRONG, answered, dual, graph, minor, parts, seats, table,
+    BEGIN, FULL, GREATEST_PRIME, HIGHEST, LAST_SET, LOWEST, MOST_KINDS, WRONG,
+    answered, dual, graph, minor, parts, seats, table, union,
 )
-
-LOWEST = -2147483648
-HIGHEST = 2147483647
-LAST_SET = 18446744073709551615
 
 # A call of each sort that is good wherever kind 0 is there.
 GOOD = {
@@ -18,6 +15,7 @@ GOOD = {
     "seats": seats([1]),
     "dual": dual(0),
     "minor": minor(0),
+    "union": union(0, 0),
 }
 
 # A call of each sort that is wrong wherever at most 32 kinds are there, kind 0 with 9 things.
@@ -27,6 +25,7 @@ BAD = {
     "parts": [parts([16])],
     "dual": [dual(-1), dual(32)],
     "minor": [minor(-1), minor(32), minor(0, 1 << 9, 0), minor(0, 0, 1 << 9), minor(0, 1, 1)],
+    "union": [union(-1, 0), union(0, -1), union(32, 0), union(0, 32)],
 }
 
 
@@ -38,7 +37,7 @@ class Numbers(unittest.TestCase):
 
     def test_the_sorts_count_together(self):
         calls = [seats([1])] + list(GOOD.values()) + list(GOOD.values())
-        self.assertEqual(answered(*calls), list(range(13)))
+        self.assertEqual(answered(*calls), list(range(15)))
 
     def test_first_kinds_of_all_sorts_that_need_no_other(self):
         for name in ("graph", "table", "parts", "seats"):
@@ -92,6 +91,13 @@ class Sizes(unittest.TestCase):
             with self.subTest(n):
                 self.assertEqual(answered(graph(n)), [WRONG])
                 self.assertEqual(answered(table(n, 2)), [WRONG])
+
+    def test_n_of_64_and_above(self):
+        self.assertEqual(answered(graph(64), table(64, 2), parts([0] * 64), seats([0] * 64)), [0, 1, 2, 3])
+        for n in (65, 66, HIGHEST):
+            with self.subTest(n):
+                self.assertEqual(answered(graph(n, []), table(n, 2, [])), [WRONG, WRONG])
+        self.assertEqual(answered(parts([0] * 65), seats([0] * 65)), [WRONG, WRONG])
 
     def test_points_at_both_ends(self):
         self.assertEqual(answered(graph(2, [0, 255, 255, 255])), [0])

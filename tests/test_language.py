@@ -61,6 +61,24 @@ def bound_names():
             yield name, node.name
 
 
+def drawn_from():
+    """For each file, the files it draws from, with the names it draws."""
+    found = {file.name: [] for file in files()}
+    for name, node in nodes(ast.ImportFrom):
+        found[name].append((node.module.split(".")[-1] + ".py", [alias.name for alias in node.names]))
+    return found
+
+
+def defined_in(file):
+    found = set()
+    for node in ast.parse((PACKAGE / file).read_text("ascii")).body:
+        if isinstance(node, (ast.FunctionDef, ast.ClassDef)):
+            found.add(node.name)
+        elif isinstance(node, ast.Assign):
+            found.add(node.targets[0].id)
+    return found
+
+
 def own_methods():
     return {
         part.name
@@ -109,6 +127,31 @@ class Forms(unittest.TestCase):
             self.assertIsInstance(node, ast.ImportFrom, name)
             self.assertRegex(node.module, r"^standtogetherdesk\.\w+$", name)
 
+    def test_names_are_drawn_from_where_they_are_defined(self):
+        for name, drawn in drawn_from().items():
+            for other, taken in drawn:
+                self.assertLessEqual(set(taken), defined_in(other), name)
+
+    def test_no_two_files_draw_from_one_another(self):
+        left = {name: {other for other, taken in drawn} for name, drawn in drawn_from().items()}
+        while left:
+            ends = [name for name in left if not left[name] & set(left)]
+            self.assertTrue(ends, left)
+            for name in ends:
+                left.pop(name)
+
+    def test_is_stands_beside_none_true_and_false(self):
+        for name, node in nodes(ast.Compare):
+            for operator, right in zip(node.ops, node.comparators):
+                if isinstance(operator, (ast.Is, ast.IsNot)):
+                    self.assertIn(ast.unparse(right), ("None", "True", "False"), (name, node.lineno))
+
+    def test_bases_are_the_packages_own(self):
+        classes = {node.name for name, node in nodes(ast.ClassDef)}
+        for name, node in nodes(ast.ClassDef):
+            self.assertLessEqual(len(node.bases), 1, node.name)
+            self.assertLessEqual({ast.unparse(base) for base in node.bases}, classes, node.name)
+
     def test_plain_functions(self):
         for name, node in nodes(ast.FunctionDef):
             given = node.args
@@ -145,6 +188,14 @@ class Names(unittest.TestCase):
             if name not in ("__init__", "__eq__", "__repr__", "__str__", "__len__"):
                 self.assertRegex(name, r"^[A-Za-z][A-Za-z0-9_]*$", file)
             self.assertFalse(hasattr(builtins, name) and name not in own_methods(), (file, name))
+
+    def test_no_local_is_called_like_an_import_or_a_class(self):
+        drawn = {name: {one for other, taken in rows for one in taken} for name, rows in drawn_from().items()}
+        classes = {node.name for name, node in nodes(ast.ClassDef)}
+        for file, node in nodes((ast.Name, ast.arg)):
+            if isinstance(node, ast.arg) or isinstance(node.ctx, ast.Store):
+                bound = node.arg if isinstance(node, ast.arg) else node.id
+                self.assertNotIn(bound, drawn[file] | classes, (file, node.lineno))
 
     def test_names_of_pythons_own(self):
         for file, node in nodes(ast.Name):
